@@ -1,0 +1,1 @@
+"""Words of formats, counted, numbered, drawn, led and kept."""

@@ -1,0 +1,26 @@
+"""Kinds of values: what an integer is, and what ascends."""
+
+
+def is_integer(thing):
+    """Whether any value is an integer; a bool is none."""
+    return isinstance(thing, int) and not isinstance(thing, bool)
+
+
+def is_below(thing, size):
+    """Whether any value is an integer from 0 on that is less than size."""
+    return is_integer(thing) and 0 <= thing < size
+
+
+def is_ascending(things):
+    """Whether values that can be compared ascend, none twice."""
+    return all([one < other for one, other in zip(things, things[1:])])
+
+
+def is_pair_of_tuples(thing):
+    """Whether any value is a tuple of just two tuples."""
+    return is_tuple_of(thing, 2) and isinstance(thing[0], tuple) and isinstance(thing[1], tuple)
+
+
+def is_tuple_of(thing, many):
+    """Whether any value is a tuple of just so many parts."""
+    return isinstance(thing, tuple) and len(thing) == many
