@@ -13,8 +13,9 @@ FIRST_PRIME = 2 ** 31 - 1
 class Search:
     """The shortest rule, by a modulus, of the terms taken so far (E. Berlekamp 1968, J. Massey 1969).
 
-    now and old are lists of what the terms are multiplied by, from the last one backward, to leave 0; old is the
-    one ahead of the last change of length, gap terms ago, inverse that of what it left there.
+    now and old are lists of what the terms are multiplied by, from the last one backward, to leave 0; each has one
+    number more than its rule has factors. old is the one ahead of the last change of length, gap terms ago, inverse
+    that of what it left there.
     """
 
     def __init__(self, modulus):
@@ -56,8 +57,7 @@ class Search:
 
     def factors(self):
         """The factors of the rule, each the integer nearest to 0."""
-        padded = self.now[1:] + [0] * (self.length + 1 - len(self.now))
-        return tuple([nearest(-term % self.modulus, self.modulus) for term in padded])
+        return tuple([nearest(-term % self.modulus, self.modulus) for term in self.now[1:]])
 
 
 def nearest(number, modulus):

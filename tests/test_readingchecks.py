@@ -89,6 +89,11 @@ class HoldTest(unittest.TestCase):
                       (("one",), ((0, 1),)), ((0, 1),)):
             self.assertIs(readings_hold(LAST, thing), False, thing)
 
+    def test_one_state_is_no_pair(self):
+        sheet = Sheet(3, ((0, "a", 1),), (1,))
+        self.assertIs(readings_hold(sheet, ("one", ((1, 2),))), True)
+        self.assertIs(readings_hold(sheet, ("one", ((2, 2),))), False)
+
     def test_two_readings(self):
         one, other = (0, 0, 1), (0, 1, 1)
         self.assertIs(readings_hold(TWICE, ("two", "aa", one, other)), True)
