@@ -7,7 +7,9 @@ import inspect
 import pathlib
 import unittest
 
+from serialhouse.errors import SerialError
 from serialhouse.formats import Format
+from serialhouse.leads import judge_lead
 from serialhouse.sheets import Sheet
 from tests.helper import LAST, NOAA, TWICE, some_formats, some_rules, some_sheets
 
@@ -29,7 +31,25 @@ FUNCTIONS = {
               "timed(one, other)", "met(one, other)", "summed(rule)", "part(rule, step, rest)"),
     "sames": ("have_same_rows(one, other)", "judge_rows(one, other)", "rows_hold(one, other, thing)",
               "first_unlike(one, other)"),
-    "farcounts": ("count_left(form, length, under)", "term_left(rule, index, under)")}
+    "farcounts": ("count_left(form, length, under)", "term_left(rule, index, under)"),
+    "numbering": ("number_of(form, word)", "how_many_ahead(form, text)", "many_to(form, length)",
+                  "has_number(form, number)", "word_at(form, number)", "words_at(form, number, many)",
+                  "length_at(form, number)", "step(form, word, by)", "between(form, one, other)",
+                  "first_from(form, text)", "last_to(form, text)"),
+    "leadtables": ("is_table(one, other, thing)", "is_whole_table(one, other, thing)", "led(one, other, table, word)",
+                   "led_back(one, other, table, word)", "image_of(one, other, table)",
+                   "together(one, other, third, table, further)", "about(one, other, table)"),
+    "leads": ("class_marks(one, other)", "is_led(one, other)", "judge_lead(one, other)",
+              "lead_holds(one, other, thing)", "parting_depth(one, other)",
+              "many_leads(one, other, depth, modulus)", "by_number(one, other, word)", "renamings(one, other)"),
+    "intoleads": ("is_into(one, other)", "judge_into(one, other)", "into_holds(one, other, thing)",
+                  "barring_depth(one, other)"),
+    "ratios": ("is_fraction(thing)", "fraction(top, bottom)", "plus(one, other)", "minus(one, other)",
+               "times(one, other)", "over(one, other)", "is_less(one, other)", "fraction_text(one)"),
+    "tosses": ("draw(many, tosses)", "draw_by(weights, tosses)", "open_at(many, depth)", "leaves_at(many, depth)",
+               "open_round(many)", "rows_to(many, index, most)", "mean(many)", "mean_by(weights)"),
+    "drawing": ("draw_word(form, length, tosses)", "draw_by_letters(form, length, tosses)",
+                "word_mean(form, length)", "letter_mean(form, length)")}
 CLASSES = {
     ("sheets", "Sheet"): ("__init__(self, size, moves, ends)", "goals(self, state, letter)", "__eq__(self, other)",
                           "__str__(self)", "read(text)"),
@@ -69,47 +89,71 @@ def shape(thing):
                        for name, worth in vars(thing).items()))
 
 
+def kept(worth):
+    """What is compared before and after a call."""
+    return shape(worth) if isinstance(worth, (Format, Sheet)) else copy.deepcopy(worth)
+
+
 class CallTest(unittest.TestCase):
     def samples(self):
+        """Pairs of the files whose functions are called, and values for their parameters."""
+        forms = ("leastforms", "joining", "comparing", "rows", "sames", "farcounts")
         for one, other in zip(some_formats(12, 91), some_formats(12, 92)):
-            yield {"one": one, "other": other, "form": one, "many": 6, "length": 4, "state": one.size - 1, "under": 7,
-                   "pairs": (("a", "b"), ("b", "a")), "thing": ("same", ((1,), (1,)))}
+            yield forms, {
+                "one": one, "other": other, "form": one, "many": 6, "length": 4, "state": one.size - 1, "under": 7,
+                "pairs": (("a", "b"), ("b", "a")), "thing": ("same", ((1,), (1,)))}
+            yield ("leads", "intoleads", "leadtables"), {
+                "one": one, "other": other, "depth": 4, "modulus": 1000, "thing": ("parted", (((0,), (1,)),))}
+            yield ("numbering", "drawing"), {
+                "form": one, "word": "ab", "text": "ba", "length": 3, "number": 2, "many": 3, "by": 2, "one": "a",
+                "other": "bb", "tosses": "01101"}
+            yield ("rules",), {"form": one, "state": one.size - 1, "thing": ((1,), (1,))}
         for sheet in some_sheets(6, 93) + [TWICE, LAST]:
-            yield {"sheet": sheet, "word": "abaa", "many": 6, "thing": ("one", ((0, 1),))}
+            yield ("readings", "readingchecks", "leastforms"), {
+                "sheet": sheet, "word": "abaa", "many": 6, "thing": ("one", ((0, 1),))}
         for rule, other in zip(some_rules(12, 94), some_rules(12, 95)):
-            yield {"one": rule, "other": other, "rule": rule, "many": 6, "index": 5, "step": 3, "rest": 1, "under": 7,
-                   "thing": rule}
-        yield {"one": "abc", "other": "abd", "thing": "abc"}
-        yield {"form": NOAA, "thing": [[{"a": [1]}], {0: [None]}]}
-
-    def can_take(self, name, arguments, file):
-        kinds = {"words": str, "rules": tuple}
-        if "one" in arguments:
-            return isinstance(arguments["one"], kinds.get(file, Format))
-        return True
+            yield ("rules", "farcounts"), {
+                "one": rule, "other": other, "rule": rule, "many": 6, "index": 5, "step": 3, "rest": 1, "under": 7,
+                "thing": rule}
+        yield ("words",), {"one": "abc", "other": "abd", "thing": "abc"}
+        yield ("numbering", "drawing"), {
+            "form": NOAA, "word": "bab", "text": "caa", "length": 5, "number": 7, "many": 5, "by": -3, "one": "ab",
+            "other": "bbb", "tosses": "0110010011"}
+        table = judge_lead(NOAA, NOAA)[1]
+        yield ("leads", "leadtables", "intoleads"), {
+            "one": NOAA, "other": NOAA, "third": NOAA, "table": table, "further": table, "word": "bab",
+            "thing": table}
+        for top in (-6, 0, 7):
+            yield ("ratios",), {"one": (3, 4), "other": (-5, 6), "top": top, "bottom": -4, "thing": (top, 4)}
+        for weights in ((1, 2), (0, 7), (5, 0, 3, 3)):
+            yield ("tosses",), {
+                "many": 5, "tosses": "0110", "weights": weights, "depth": 9, "index": 3, "most": 20}
 
     def test_calls_change_nothing_and_answer_alike(self):
         called = set()
-        for sample in self.samples():
-            for file, told in FUNCTIONS.items():
-                for text in told:
+        for files, sample in self.samples():
+            for file in files:
+                for text in FUNCTIONS[file]:
                     names = text[text.index("(") + 1:-1].split(", ")
-                    if not all(name in sample for name in names):
-                        continue
-                    arguments = {name: sample[name] for name in names}
-                    if not self.can_take(text, arguments, file):
-                        continue
-                    function = getattr(importlib.import_module("serialhouse." + file), text.split("(")[0])
-                    before = {name: shape(worth) if isinstance(worth, (Format, Sheet)) else copy.deepcopy(worth)
-                              for name, worth in arguments.items()}
-                    answer = function(**arguments)
-                    self.assertEqual(function(*[arguments[name] for name in names]), answer)
-                    self.assertEqual(function(**arguments), answer)
-                    for name, worth in arguments.items():
-                        now = shape(worth) if isinstance(worth, (Format, Sheet)) else worth
-                        self.assertEqual(now, before[name])
-                    called.add(text)
+                    if all(name in sample for name in names):
+                        self.call(file, text.split("(")[0], names, {name: sample[name] for name in names})
+                        called.add(text)
         self.assertEqual(called, {text for told in FUNCTIONS.values() for text in told})
+
+    def call(self, file, name, names, arguments):
+        function = getattr(importlib.import_module("serialhouse." + file), name)
+        before = {name: kept(worth) for name, worth in arguments.items()}
+        answer = self.answer(function, (), arguments)
+        self.assertEqual(self.answer(function, [arguments[name] for name in names], {}), answer)
+        self.assertEqual(self.answer(function, (), arguments), answer)
+        for name, worth in arguments.items():
+            self.assertEqual(kept(worth), before[name])
+
+    def answer(self, function, by_position, by_name):
+        try:
+            return function(*by_position, **by_name)
+        except SerialError as error:
+            return error.__class__, vars(error)
 
     def test_methods_change_nothing(self):
         for form in some_formats(10, 96):
