@@ -4,6 +4,7 @@ import itertools
 import random
 from fractions import Fraction
 
+from serialhouse.codes import Code
 from serialhouse.errors import BadFormat, HasBeginnings, NothingToUndo
 from serialhouse.formats import Format
 from serialhouse.sheets import Sheet
@@ -24,6 +25,15 @@ SOME = Format(2, ((0, "a", 1), (1, "a", 0), (1, "b", 0)), (0,))
 TWICE = Sheet(2, ((0, "a", 0), (0, "a", 1), (1, "a", 1)), (1,))
 LAST = Sheet(2, ((0, "a", 0), (0, "a", 1), (0, "b", 0)), (1,))
 
+ONE = Code("ab", ("a", "ab", "bb"))
+TWO = Code("ab", ("a", "ab", "ba"))
+LATE = Code("ab", ("a", "aab", "bb"))
+NEAR = Code("ab", ("a", "aab"))
+SINGLE = Code("a", ("aa",))
+PLAIN = Code("abc", ("a", "bb", "bc", "c"))
+BARE = Code("ab", ())
+CODES = (ONE, TWO, LATE, NEAR, SINGLE, PLAIN, BARE)
+
 FORMS = (NOAA, NONE, EMPTY, ONES, EVEN, AA, OTHERS, DEAD)
 
 ANY = (
@@ -33,7 +43,9 @@ ANY = (
     ("one",), ("two",), ("same", ((), ())), ("unlike", 0), ("unlike", True), ("lead", ()), ("into", ()), ("barred", ()),
     ("parted", ()), ("parted", (((0,), (1,)),)), ("lead", ((0, 0, ()),)), ("into", ((0, 0, ()),)), ((0, 0, ()),),
     ("barred", ((0, 0, 0, None),)), ("barred", ((0, 0, 0, ("a",)),)), (0, 0, ()), (0, 1, 0, None), (0, 0, 0, ("a", "b")),
-    ("a", "a", 0), ("a", "b", 1), [], [0], [(0, 1)], ["one", ()], {},
+    ("a", "a", 0), ("a", "b", 1), ("one", ("b",)), ("two", (0, 2), (1, 0)), ("two", (), ()), ("endless", ""),
+    ("endless", (0,), (1,), (2,), (2,)), ("within", 0, ()), ("within", 2, (("ab", 1), ("b", 0))), ("ends", (), ()),
+    ((0, 1), (1, 2)), (1, 2), ((-1, -2),), ((1, 2),), ONE, [ONE], "abc", "ba", ("a", "ab"), ("b", "a"), ("",), [], [0], [(0, 1)], ["one", ()], {},
     {0: 1}, {"a": [1]}, ((((((),),),),),), "a" * 2000, "\n" * 9, tuple(range(50)), NOAA, NOAA.sheet, TWICE,
     BadFormat("size"), HasBeginnings(0, 1), NothingToUndo(), [[[{"a": (None, [True])}]]])
 
@@ -110,6 +122,35 @@ def some_sheets(many, seed, size=4, most=8, letters="ab"):
         ends = tuple(state for state in range(states) if source.random() < 0.4)
         made.append(Sheet(states, tuple(sorted(moves)), ends))
     return made
+
+
+def some_codes(many, seed, most=4, length=4):
+    """Codes of different kinds, the same ones each time."""
+    source = random.Random(seed)
+    made = list(CODES)
+    while len(made) < many:
+        letters = source.choice(("a", "ab", "ab", "ab", "bc", "abc"))
+        words = []
+        for _ in range(source.randint(0, most)):
+            word = "".join(source.choice(letters) for _ in range(source.randint(1, length)))
+            if word not in words:
+                words.append(word)
+        made.append(Code(letters, tuple(words)))
+    return made
+
+
+def messages_to(code, most):
+    """All messages that have at most so many letters when written."""
+    told = [()]
+    for message in told:
+        length = sum(len(code.words[number]) for number in message)
+        told.extend(message + (number,) for number, word in enumerate(code.words) if length + len(word) <= most)
+    return told
+
+
+def text_of(code, message):
+    """A message, written."""
+    return "".join(code.words[number] for number in message)
 
 
 def some_rules(many, seed, most=3):

@@ -7,11 +7,13 @@ import inspect
 import pathlib
 import unittest
 
+from serialhouse.codes import Code
 from serialhouse.errors import SerialError
 from serialhouse.formats import Format
 from serialhouse.leads import judge_lead
+from serialhouse.readers import Reader
 from serialhouse.sheets import Sheet
-from tests.helper import LAST, NOAA, TWICE, some_formats, some_rules, some_sheets
+from tests.helper import CODES, LAST, NEAR, NOAA, TWICE, some_formats, some_rules, some_sheets
 
 PACKAGE = pathlib.Path(__file__).parent.parent / "serialhouse"
 
@@ -49,13 +51,26 @@ FUNCTIONS = {
     "tosses": ("draw(many, tosses)", "draw_by(weights, tosses)", "open_at(many, depth)", "leaves_at(many, depth)",
                "open_round(many)", "rows_to(many, index, most)", "mean(many)", "mean_by(weights)"),
     "drawing": ("draw_word(form, length, tosses)", "draw_by_letters(form, length, tosses)",
-                "word_mean(form, length)", "letter_mean(form, length)")}
+                "word_mean(form, length)", "letter_mean(form, length)"),
+    "trees": ("is_tree(many, thing)", "tree_paper(many, tree)", "tree_holds(many, tree, thing)", "does_end(many, tree)",
+              "is_even(many, tree)", "is_least(many, tree)", "tree_shares(many, tree)", "tree_mean(many, tree)",
+              "excess(many, tree)", "unlike_depth(many, tree)", "tree_leaves(many, tree, depth)",
+              "walked(many, tree, tosses)", "least_tree(many)"),
+    "codes": ("is_message(code, thing)", "written(code, message)", "code_readings(code, word)", "read(code, word)",
+              "form_of(code)", "message_count(code, length)"),
+    "rests": ("is_without_beginnings(code)", "is_one_way(code)", "judge_code(code)", "code_holds(code, thing)",
+              "look(code)", "judge_look(code)", "look_holds(code, thing)"),
+    "lengthcodes": ("share_of(code)", "is_complete(code)", "further_word(code)", "code_of(letters, lengths)"),
+    "totals": ("total_of(code, weights)", "least_total(letters, weights)", "best_code(letters, weights)",
+               "joins_for(letters, weights)", "joins_hold(letters, weights, thing)")}
 CLASSES = {
     ("sheets", "Sheet"): ("__init__(self, size, moves, ends)", "goals(self, state, letter)", "__eq__(self, other)",
                           "__str__(self)", "read(text)"),
     ("formats", "Format"): ("__init__(self, size, moves, ends)", "step(self, state, letter)",
                             "led(self, word, state=0)", "has(self, thing)", "__eq__(self, other)", "__str__(self)",
-                            "read(text)")}
+                            "read(text)"),
+    ("codes", "Code"): ("__init__(self, letters, words)", "__len__(self)", "__eq__(self, other)"),
+    ("readers", "Reader"): ("__init__(self, code)", "take(self, word)", "close(self)", "undo(self)")}
 
 
 class InterfaceTest(unittest.TestCase):
@@ -79,7 +94,7 @@ class InterfaceTest(unittest.TestCase):
                 self.assertEqual(method + str(inspect.signature(getattr(made, method))), text)
 
     def test_only_modules_with_all_of_their_names(self):
-        for file in list(FUNCTIONS) + ["sheets", "formats", "errors"]:
+        for file in list(FUNCTIONS) + ["sheets", "formats", "errors", "readers"]:
             self.assertTrue((PACKAGE / (file + ".py")).is_file())
 
 
@@ -91,7 +106,7 @@ def shape(thing):
 
 def kept(worth):
     """What is compared before and after a call."""
-    return shape(worth) if isinstance(worth, (Format, Sheet)) else copy.deepcopy(worth)
+    return shape(worth) if isinstance(worth, (Code, Format, Sheet)) else copy.deepcopy(worth)
 
 
 class CallTest(unittest.TestCase):
@@ -125,6 +140,16 @@ class CallTest(unittest.TestCase):
             "thing": table}
         for top in (-6, 0, 7):
             yield ("ratios",), {"one": (3, 4), "other": (-5, 6), "top": top, "bottom": -4, "thing": (top, 4)}
+        for tree in (((1, 1), (-1, -2)), ((-1, 1), (-2, 0)), ((1, -1), (1, 1))):
+            yield ("trees",), {
+                "many": 2, "tree": tree, "thing": ("endless", "0"), "depth": 5, "tosses": "0110"}
+        for code in CODES:
+            yield ("codes", "rests", "lengthcodes"), {
+                "code": code, "thing": ("one", ("b",)), "word": "abb", "message": (0,) * (len(code) > 0), "length": 7}
+        for letters in (2, 3):
+            yield ("totals",), {"letters": letters, "weights": (5, 1, 1, 3), "thing": ((1, 2), (3, 4), (0, 5))}
+        yield ("lengthcodes",), {"letters": "ab", "lengths": (2, 1, 3, 3)}
+        yield ("totals",), {"code": NEAR, "weights": (3, 4)}
         for weights in ((1, 2), (0, 7), (5, 0, 3, 3)):
             yield ("tosses",), {
                 "many": 5, "tosses": "0110", "weights": weights, "depth": 9, "index": 3, "most": 20}
@@ -165,3 +190,11 @@ class CallTest(unittest.TestCase):
             self.assertTrue(form == Format.read(str(form)))
             form.sheet.goals(0, "a")
             self.assertEqual(shape(form), before)
+
+    def test_methods_by_name(self):
+        reader = Reader(code=NEAR)
+        self.assertEqual(reader.take(word="aaa"), (0,))
+        self.assertEqual(reader.take("b"), (1,))
+        self.assertEqual(Code(letters="ab", words=("a", "aab")), NEAR)
+        self.assertEqual(shape(reader.code), shape(Code("ab", ("a", "aab"))))
+        self.assertIsNone(reader.undo())

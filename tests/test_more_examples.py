@@ -1,16 +1,22 @@
-"""The examples of the Parts 3 to 5 of the document, as it tells them."""
+"""The examples of the Parts 3 to 6 of the document, as it tells them."""
 
 import unittest
 
+from serialhouse.codes import Code, read
 from serialhouse.drawing import draw_word, letter_mean, word_mean
-from serialhouse.errors import TooLong
+from serialhouse.errors import TooLong, TooMuch
 from serialhouse.formats import Format
 from serialhouse.intoleads import barring_depth, into_holds, is_into
 from serialhouse.leads import by_number, class_marks, lead_holds, many_leads, parting_depth, renamings
 from serialhouse.leadtables import is_table, is_whole_table, led
+from serialhouse.lengthcodes import code_of, further_word, share_of
 from serialhouse.numbering import (
     between, first_from, how_many_ahead, last_to, length_at, many_to, number_of, step, word_at, words_at)
+from serialhouse.readers import Reader
+from serialhouse.rests import code_holds, is_one_way, judge_look, look, look_holds
 from serialhouse.tosses import draw, draw_by, leaves_at, mean, mean_by, open_at, open_round, rows_to
+from serialhouse.totals import joins_hold, least_total
+from serialhouse.trees import excess, is_even, tree_mean, tree_paper, tree_shares, unlike_depth
 
 NOAA = Format(2, ((0, "a", 1), (0, "b", 0), (1, "b", 0)), (0, 1))
 ONES = Format(1, ((0, "a", 0),), (0,))
@@ -102,3 +108,52 @@ class PartFiveTest(unittest.TestCase):
         self.assertEqual(draw_word(NOAA, 3, "100"), ("drawn", "bbb", 3))
         self.assertEqual(word_mean(NOAA, 3), (18, 5))
         self.assertEqual(letter_mean(NOAA, 3), (4, 1))
+
+    def test_trees(self):
+        self.assertEqual(tree_shares(2, ((-1, 1), (-2, 0))), ((2, 3), (1, 3)))
+        self.assertEqual(tree_mean(2, ((-1, 1), (-2, 0))), (2, 1))
+        tree = ((1, 1), (-1, -2))
+        self.assertIs(is_even(2, tree), True)
+        self.assertEqual((tree_mean(2, tree), excess(2, tree), unlike_depth(2, tree)), ((2, 1), (1, 1), 1))
+        self.assertEqual(tree_paper(2, ((0, 0),)), ("endless", ""))
+
+
+class PartSixTest(unittest.TestCase):
+    def test_codes(self):
+        one = Code("ab", ("a", "ab", "bb"))
+        self.assertIs(code_holds(one, ("one", ("b",))), True)
+        self.assertIsNone(look(one))
+        self.assertIs(look_holds(one, ("endless", (0,), (1,), (2,), (2,))), True)
+        self.assertEqual(share_of(one), (1, 1))
+        self.assertEqual((read(one, "abb"), read(one, "abbb")), ((0, 2), (1, 2)))
+        self.assertIs(code_holds(Code("ab", ("a", "ab", "ba")), ("two", (0, 2), (1, 0))), True)
+
+    def test_looks(self):
+        late = Code("ab", ("a", "aab", "bb"))
+        self.assertIs(is_one_way(late), True)
+        self.assertIs(code_holds(late, ("one", ("ab", "b"))), True)
+        self.assertIsNone(look(late))
+        self.assertIs(look_holds(late, ("endless", (0, 0), (1,), (2,), (2,))), True)
+        near = Code("ab", ("a", "aab"))
+        self.assertEqual(look(near), 2)
+        self.assertIs(look_holds(near, ("within", 2, (("ab", 1), ("b", 0)))), True)
+        self.assertEqual(judge_look(near)[:2], ("within", 2))
+
+    def test_lengths(self):
+        self.assertEqual(code_of("ab", (2, 1, 3, 3)).words, ("ba", "a", "bba", "bbb"))
+        self.assertEqual(further_word(Code("ab", ("a", "bb"))), "ba")
+        with self.assertRaises(TooMuch) as caught:
+            code_of("ab", (1, 1, 2))
+        self.assertEqual(caught.exception.share, (5, 4))
+
+    def test_totals(self):
+        self.assertEqual(least_total(2, (5, 1, 1, 3)), 17)
+        self.assertIs(joins_hold(2, (5, 1, 1, 3), ((1, 2), (3, 4), (0, 5))), True)
+        self.assertEqual(least_total(3, (1, 1, 1, 1)), 6)
+
+    def test_readers(self):
+        reader = Reader(Code("ab", ("a", "aab")))
+        self.assertEqual((reader.take("a"), reader.left), ((), "a"))
+        self.assertEqual((reader.take("a"), reader.left), ((), "aa"))
+        self.assertEqual((reader.take("a"), reader.sure, reader.left), ((0,), (0,), "aa"))
+        self.assertEqual((reader.take("b"), reader.sure, reader.left), ((1,), (0, 1), ""))
