@@ -4,7 +4,6 @@ from serialhouse.barring import Barring
 from serialhouse.leadtables import is_table, made_table
 from serialhouse.usefulmoves import useful_moves
 from serialhouse.values import is_ascending, is_below, is_integer, is_tuple_of
-from serialhouse.words import is_letter
 
 
 def is_into(one, other):
@@ -14,8 +13,6 @@ def is_into(one, other):
 
 def barring_depth(one, other):
     """How many letters show, at least, that there is no lead into the second format; None if there is one."""
-    if not one.useful:
-        return None
     return Barring(one, other).depths.get((0, 0))
 
 
@@ -71,7 +68,7 @@ def is_row(one, other, moves, thing):
 
 def are_letters(thing, letters):
     """Whether any value is an ascending tuple of one or more of some letters."""
-    if not isinstance(thing, tuple) or not all([is_letter(sign) and sign in letters for sign in thing]):
+    if not isinstance(thing, tuple) or not all([sign in letters for sign in thing]):
         return False
     return len(thing) > 0 and is_ascending(thing)
 

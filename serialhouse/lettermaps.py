@@ -5,8 +5,6 @@ from serialhouse.marks import rounds_of
 
 def all_renamings(one, other):
     """The ascending tuple of all renamings of two least formats."""
-    if len(one.letters) != len(other.letters):
-        return ()
     marks = rounds_of(one, other)[-1]
     told = []
     waiting = [()]

@@ -155,6 +155,22 @@ class IntoTest(unittest.TestCase):
             right += len(further) > len(rows)
         self.assertGreater(right, 5)
 
+    def test_rules_one_by_one(self):
+        self.assertIs(into_holds(ALL, ONES, ("barred", ((0, 0, 0, ("a", "b")),))), True)
+        for letters in (("b", "a"), ("a", "a"), ("a", "a", "b"), ("a",), ("a", "c"), ("a", "b", "c"), (), ["a", "b"], "ab",
+                        ("a", ["b"]), ("a", None)):
+            self.assertIs(into_holds(ALL, ONES, ("barred", ((0, 0, 0, letters),))), False)
+        for rank in (-1, False, "0", None, (0,)):
+            self.assertIs(into_holds(ALL, ONES, ("barred", ((0, 0, rank, ("a", "b")),))), False)
+        self.assertIs(into_holds(ONES, ONES, ("barred", ((0, 0, 0, ("a", "a")),))), False)
+        for rows in (((0, 0, 0, ("a", "b")), (0, 0, 1, ("a", "b"))), ((0, 0, 0, ("a", "b")),) * 2, ((0, 0, 0),), ()):
+            self.assertIs(into_holds(ALL, ONES, ("barred", rows)), False)
+        # An end that is not met is not useful, so it has no row.
+        self.assertIs(into_holds(DEAD, NONE, ("barred", ((0, 0, 0, ("a",)),))), True)
+        self.assertIs(into_holds(DEAD, NONE, ("barred", ((0, 0, 0, ("a",)), (1, 0, 7, None)))), True)
+        self.assertIs(into_holds(DEAD, NONE, ("barred", ((0, 0, 0, ("a",)), (3, 0, 0, None)))), False)
+        self.assertIs(into_holds(DEAD, NONE, ("barred", ((0, 0, 0, ("b",)),))), False)
+
     def test_many_letters(self):
         many = Format(1, tuple((0, letter, 0) for letter in "abcdefghij"), (0,))
         fewer = Format(1, tuple((0, letter, 0) for letter in "klmnopqrs"), (0,))

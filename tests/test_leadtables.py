@@ -11,7 +11,7 @@ from serialhouse.leads import judge_lead
 from serialhouse.leadtables import about, image_of, is_table, is_whole_table, led, led_back, together
 from serialhouse.words import common_beginning
 from tests.helper import (
-    ALL, ANY, DEAD, EMPTY, EVENS, LEFT, NOAA, NONE, ONES, RIGHT, SOME, changed, some_formats, words_of, words_to)
+    AA, ALL, ANY, DEAD, EMPTY, EVENS, LEFT, NOAA, NONE, ONES, RIGHT, SOME, changed, some_formats, words_of, words_to)
 
 PARTS = ((0, 0, (("a", "b", 1), ("b", "a", 1))), (1, 1, (("a", "a", 0), ("b", "b", 0))))
 
@@ -108,6 +108,25 @@ class TableTest(unittest.TestCase):
             self.assertTrue(told_whole(form, form, table))
             for thing in changed(table, number, 150):
                 self.assertIs(is_whole_table(form, form, thing), told_whole(form, form, thing))
+
+    def test_rules_one_by_one(self):
+        self.assertIs(is_table(ALL, ALL, ((0, 0, (("a", "a", 0), ("b", "b", 0))),)), True)
+        for steps in ((("a", "a", 0), ("b", "a", 0)), (("a", "b", 0), ("b", "b", 0)), (("b", "b", 0), ("a", "a", 0)),
+                      (("a", "a", 0),), (("a", "a", 0), ("b", "b", 0), ("c", "c", 0)), (("a", "a", 0), ("a", "b", 0)),
+                      (("a", "a", 0), ("b", "c", 0)), (("a", "a", False), ("b", "b", 0)), (("a", "a", 0), ("b", "b", 1)),
+                      (("a", "a", 0), ("b", "b", -1))):
+            self.assertIs(is_table(ALL, ALL, ((0, 0, steps),)), False)
+        self.assertIs(is_table(EMPTY, EMPTY, ((0, 0, ()),)), True)
+        for row in ((False, 0, ()), (0, False, ()), (0, 1, ()), (1, 0, ()), (0, 0, []), [0, 0, ()], (0, 0, (), ())):
+            self.assertIs(is_table(EMPTY, EMPTY, (row,)), False)
+        # Where the first word ends, the second one has to.
+        self.assertIs(is_table(EMPTY, AA, ((0, 0, ()),)), False)
+        self.assertIs(is_table(AA, ONES, ((0, 0, (("a", "a", 1),)), (1, 0, (("a", "a", 2),)), (2, 0, ()))), True)
+        self.assertIs(is_table(ONES, AA, ((0, 0, (("a", "a", 0),)),)), False)
+        # A whole table leaves nothing over: no end, no letter.
+        self.assertIs(is_whole_table(AA, ONES, ((0, 0, (("a", "a", 1),)), (1, 0, (("a", "a", 2),)), (2, 0, ()))), False)
+        self.assertIs(is_whole_table(EMPTY, ONES, ((0, 0, ()),)), False)
+        self.assertIs(is_whole_table(ONES, ALL, ((0, 0, (("a", "a", 0),)),)), False)
 
     def test_rows_alike_and_rows_that_nothing_comes_to(self):
         twice = ((0, 0, (("a", "a", 2), ("b", "b", 1))), (0, 0, (("a", "b", 2), ("b", "a", 0))),

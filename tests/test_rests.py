@@ -263,6 +263,9 @@ class LookTest(unittest.TestCase):
         self.assertIs(look_holds(NEAR, ("within", 2, (("ab", 1), ("ab", 2), ("b", 0)))), False)
         self.assertIs(look_holds(NEAR, ("within", True, (("ab", 1), ("b", 0)))), False)
         self.assertIs(look_holds(NEAR, ("within", 2, (("ab", True), ("b", 0)))), False)
+        # Here nothing but the two ways of reading is against it.
+        self.assertIs(look_holds(Code("ab", ("a", "ab", "b")), ("within", 2, (("b", 1),))), False)
+        self.assertIs(look_holds(Code("ab", ("a", "ab")), ("within", 1, (("b", 0),))), True)
         self.assertIs(look_holds(TWO, ("within", 10 ** 9, (("a", 10 ** 9), ("b", 10 ** 9)))), False)
 
     def test_endless_ones(self):
