@@ -8,7 +8,7 @@ class Layers:
 
     def __init__(self, form):
         self.form = form
-        self.goals = goals_by_state(form)
+        self.goal_rows = goals_by_state(form)
         self.layers = [counts_at_ends(form)]
         self.moves = [[] for _ in range(form.size)]
         for state, letter, goal in form.moves:
@@ -17,7 +17,7 @@ class Layers:
     def at(self, length):
         """The counts of all states for a length."""
         while len(self.layers) <= length:
-            self.layers.append(longer(self.goals, self.layers[-1]))
+            self.layers.append(longer(self.goal_rows, self.layers[-1]))
         return self.layers[length]
 
     def count_of(self, length):
