@@ -24,3 +24,12 @@ def is_pair_of_tuples(thing):
 def is_tuple_of(thing, many):
     """Whether any value is a tuple of just so many parts."""
     return isinstance(thing, tuple) and len(thing) == many
+
+
+def is_just(thing, told):
+    """Whether any value is just what is told, of integers, strings and tuples of these; a bool is no integer."""
+    if isinstance(told, tuple):
+        return is_tuple_of(thing, len(told)) and all([is_just(mine, yours) for mine, yours in zip(thing, told)])
+    if isinstance(told, str):
+        return isinstance(thing, str) and thing == told
+    return is_integer(thing) and thing == told

@@ -22,6 +22,7 @@ RIGHT = Format(4, ((0, "a", 1), (0, "b", 2), (1, "a", 3), (2, "a", 3)), (3,))
 ALL = Format(1, ((0, "a", 0), (0, "b", 0)), (0,))
 EVENS = Format(2, ((0, "a", 1), (0, "b", 1), (1, "a", 0), (1, "b", 0)), (0,))
 SOME = Format(2, ((0, "a", 1), (1, "a", 0), (1, "b", 0)), (0,))
+ENDA = Format(2, ((0, "a", 1), (0, "b", 0), (1, "a", 1), (1, "b", 0)), (1,))
 TWICE = Sheet(2, ((0, "a", 0), (0, "a", 1), (1, "a", 1)), (1,))
 LAST = Sheet(2, ((0, "a", 0), (0, "a", 1), (0, "b", 0)), (1,))
 
@@ -224,3 +225,38 @@ def changed_once(thing, source):
     if isinstance(thing, int) and source.random() < 0.6:
         return thing + source.choice((-1, 1))
     return source.choice(ANY)
+
+
+def some_tame_formats(many, seed, size=5, letters="ab"):
+    """Formats most of which do not double: few moves lead backward. The same ones each time."""
+    source = random.Random(seed)
+    made = []
+    for _ in range(many):
+        states = source.randint(1, size)
+        moves = []
+        for state in range(states):
+            taken = list(letters)
+            source.shuffle(taken)
+            if source.random() < 0.7:
+                moves.append((state, taken.pop(), state - source.choice((0, 0, 0, 0, 1, 2, 3)) if state > 2 else state))
+            for letter in taken:
+                if state + 1 < states and source.random() < 0.8:
+                    moves.append((state, letter, source.randint(state + 1, min(states - 1, state + 2))))
+        ends = tuple(state for state in range(states) if source.random() < 0.5 or state == states - 1)
+        made.append(Format(states, tuple(sorted(moves)), ends))
+    return made
+
+
+def reach(form, state):
+    """The states that some moves, perhaps none, lead to from a state."""
+    met = {state}
+    while True:
+        more = met | {goal for start, _, goal in form.moves if start in met}
+        if more == met:
+            return met
+        met = more
+
+
+def is_int(thing, least=0):
+    """Whether any value is an integer, no bool, from a least one on."""
+    return type(thing) is int and thing >= least

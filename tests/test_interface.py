@@ -13,7 +13,8 @@ from serialhouse.formats import Format
 from serialhouse.leads import judge_lead
 from serialhouse.readers import Reader
 from serialhouse.sheets import Sheet
-from tests.helper import CODES, LAST, NEAR, NOAA, TWICE, some_formats, some_rules, some_sheets
+from tests.helper import (
+    ALL, CODES, ENDA, EVENS, LAST, NEAR, NOAA, TWICE, some_formats, some_rules, some_sheets)
 
 PACKAGE = pathlib.Path(__file__).parent.parent / "serialhouse"
 
@@ -62,7 +63,18 @@ FUNCTIONS = {
               "look(code)", "judge_look(code)", "look_holds(code, thing)"),
     "lengthcodes": ("share_of(code)", "is_complete(code)", "further_word(code)", "code_of(letters, lengths)"),
     "totals": ("total_of(code, weights)", "least_total(letters, weights)", "best_code(letters, weights)",
-               "joins_for(letters, weights)", "joins_hold(letters, weights, thing)")}
+               "joins_for(letters, weights)", "joins_hold(letters, weights, thing)"),
+    "remainders": ("remainders(form, under, many)", "around(form, under, most=2000)", "round_holds(form, under, thing)",
+                   "lengths_with(form, under, rest, most=2000)", "judge_rest(form, under, rest, most=2000)",
+                   "rest_holds(form, under, rest, thing)", "empty_lengths(form)", "leave_alike(one, other, under)",
+                   "judge_remainders(one, other, under)", "remainders_hold(one, other, under, thing)"),
+    "growth": ("judge_growth(form)", "degree(form)", "grows_faster(one, other)", "longest(form)"),
+    "growthchecks": ("growth_holds(form, thing)",),
+    "pieces": ("pieces(form)", "step_of(form)", "piece_count(form, length)"),
+    "crossings": ("judge_never_fewer(one, other)", "never_fewer_from(one, other)",
+                  "never_fewer_holds(one, other, thing)"),
+    "shares": ("share_at(form, letters, length)", "closed_lots(form, letters)", "turns(form, letters, states)",
+               "round_of(form, letters)", "comes_to(form, letters, states)", "lost_share(form, letters)")}
 CLASSES = {
     ("sheets", "Sheet"): ("__init__(self, size, moves, ends)", "goals(self, state, letter)", "__eq__(self, other)",
                           "__str__(self)", "read(text)"),
@@ -70,7 +82,12 @@ CLASSES = {
                             "led(self, word, state=0)", "has(self, thing)", "__eq__(self, other)", "__str__(self)",
                             "read(text)"),
     ("codes", "Code"): ("__init__(self, letters, words)", "__len__(self)", "__eq__(self, other)"),
-    ("readers", "Reader"): ("__init__(self, code)", "take(self, word)", "close(self)", "undo(self)")}
+    ("readers", "Reader"): ("__init__(self, code)", "take(self, word)", "close(self)", "undo(self)"),
+    ("lengths", "Lengths"): (
+        "__init__(self, few, first, around, rests)", "__eq__(self, other)", "__contains__(self, length)",
+        "__and__(self, other)", "__or__(self, other)", "__sub__(self, other)", "__invert__(self)",
+        "is_within(self, other)", "first_apart(self, other)", "moved(self, by)", "at(self, index)",
+        "below(self, length)", "is_endless(self)")}
 
 
 class InterfaceTest(unittest.TestCase):
@@ -150,6 +167,12 @@ class CallTest(unittest.TestCase):
             yield ("totals",), {"letters": letters, "weights": (5, 1, 1, 3), "thing": ((1, 2), (3, 4), (0, 5))}
         yield ("lengthcodes",), {"letters": "ab", "lengths": (2, 1, 3, 3)}
         yield ("totals",), {"code": NEAR, "weights": (3, 4)}
+        for one, other in zip(some_formats(12, 97, size=3), some_formats(12, 98, size=3)):
+            yield ("remainders", "growth", "growthchecks", "pieces", "crossings"), {
+                "form": one, "one": one, "other": other, "under": 6, "many": 9, "most=2000": 300, "rest": 4,
+                "length": 10 ** 9, "thing": ("ends", ())}
+        for form in (EVENS, ALL, ENDA):
+            yield ("shares",), {"form": form, "letters": "ab", "length": 7, "states": tuple(range(form.size))}
         for weights in ((1, 2), (0, 7), (5, 0, 3, 3)):
             yield ("tosses",), {
                 "many": 5, "tosses": "0110", "weights": weights, "depth": 9, "index": 3, "most": 20}
@@ -161,15 +184,15 @@ class CallTest(unittest.TestCase):
                 for text in FUNCTIONS[file]:
                     names = text[text.index("(") + 1:-1].split(", ")
                     if all(name in sample for name in names):
-                        self.call(file, text.split("(")[0], names, {name: sample[name] for name in names})
+                        self.call(file, text.split("(")[0], {name.split("=")[0]: sample[name] for name in names})
                         called.add(text)
         self.assertEqual(called, {text for told in FUNCTIONS.values() for text in told})
 
-    def call(self, file, name, names, arguments):
+    def call(self, file, name, arguments):
         function = getattr(importlib.import_module("serialhouse." + file), name)
         before = {name: kept(worth) for name, worth in arguments.items()}
         answer = self.answer(function, (), arguments)
-        self.assertEqual(self.answer(function, [arguments[name] for name in names], {}), answer)
+        self.assertEqual(self.answer(function, list(arguments.values()), {}), answer)
         self.assertEqual(self.answer(function, (), arguments), answer)
         for name, worth in arguments.items():
             self.assertEqual(kept(worth), before[name])

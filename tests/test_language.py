@@ -214,3 +214,83 @@ class ExpressionTest(unittest.TestCase):
                         if isinstance(part, ast.Subscript) and not isinstance(part.ctx, ast.Load) and isinstance(
                                 part.value, ast.Name):
                             self.assertNotIn(part.value.id, gone_over, (name, node.lineno))
+
+
+RUN_BY_SIGNS = SPECIAL - {"__init__", "__call__", "__iter__"}
+CHANGING = {"append", "extend", "insert", "pop", "remove", "clear", "update", "setdefault", "reverse", "add", "discard",
+            "sort"}
+
+
+def functions_by_name():
+    told = {}
+    for tree in TREES.values():
+        for node in ast.walk(tree):
+            if isinstance(node, ast.FunctionDef):
+                told.setdefault(node.name, []).append(node)
+    return told
+
+
+def made_lists(function):
+    """The local names that are assigned lists made by this function, and nothing else."""
+    made, other = set(), set()
+    for node in ast.walk(function):
+        if isinstance(node, ast.Assign):
+            is_made = isinstance(node.value, (ast.List, ast.ListComp)) or is_call_of(node.value, {"list", "sorted"})
+            for target in node.targets:
+                for part in ast.walk(target):
+                    if isinstance(part, ast.Name):
+                        (made if is_made and part is target else other).add(part.id)
+    return made - other
+
+
+class SignTest(unittest.TestCase):
+    """What signs run (operators, ==, str, len) changes nothing, and calls nothing that it is passed."""
+
+    def run_by_signs(self):
+        functions = functions_by_name()
+        classes = {node.name: node for tree in TREES.values() for node in tree.body if isinstance(node, ast.ClassDef)}
+        met = {}
+        waiting = [node for name in RUN_BY_SIGNS for node in functions.get(name, [])]
+        while waiting:
+            function = waiting.pop()
+            if id(function) in met:
+                continue
+            met[id(function)] = function
+            for node in ast.walk(function):
+                if isinstance(node, ast.Call):
+                    name = node.func.id if isinstance(node.func, ast.Name) else getattr(node.func, "attr", "")
+                    if name in classes:
+                        waiting += [part for part in classes[name].body if getattr(part, "name", "") == "__init__"]
+                    elif name not in METHODS:
+                        waiting += functions.get(name, [])
+        return list(met.values())
+
+    def test_nothing_is_changed(self):
+        functions = self.run_by_signs()
+        self.assertIn("joined_lengths", [function.name for function in functions])
+        self.assertIn("figures_of", [function.name for function in functions])
+        for function in functions:
+            made = made_lists(function)
+            parameters = {arg.arg for arg in function.args.args}
+            for node in ast.walk(function):
+                if isinstance(node, (ast.Attribute, ast.Subscript)) and not isinstance(node.ctx, ast.Load):
+                    self.assertTrue(function.name == "__init__" and node.value.id == "self", (function.name, node.lineno))
+                if isinstance(node, ast.AugAssign):
+                    self.assertTrue(isinstance(node.target, ast.Name) and (
+                        isinstance(node.op, ast.Sub) or isinstance(node.value, ast.Constant)), (function.name, node.lineno))
+                if isinstance(node, ast.Call) and isinstance(node.func, ast.Attribute) and node.func.attr in CHANGING:
+                    self.assertIn(getattr(node.func.value, "id", None), made, (function.name, node.lineno))
+                if isinstance(node, ast.Call) and isinstance(node.func, ast.Name):
+                    self.assertNotIn(node.func.id, parameters - {"cls"}, (function.name, node.lineno))
+
+
+class AttributeTest(unittest.TestCase):
+    def test_no_name_is_a_method_and_an_attribute(self):
+        methods, stored = set(), set()
+        for tree in TREES.values():
+            for node in ast.walk(tree):
+                if isinstance(node, ast.ClassDef):
+                    methods |= {part.name for part in node.body if isinstance(part, ast.FunctionDef)}
+                if isinstance(node, ast.Attribute) and isinstance(node.ctx, ast.Store):
+                    stored.add(node.attr)
+        self.assertEqual(methods & stored, set())
