@@ -88,14 +88,20 @@ def backward(form):
 
 def renamed(form, pairs):
     """The words of a format with other letters; raises BadLetters for pairs that do not tell unlike ones."""
+    letters = exchanged_letters(form.letters, pairs)
+    moves = sorted([(state, letters[letter], goal) for state, letter, goal in form.moves])
+    return least_form(Format(form.size, tuple(moves), form.ends))
+
+
+def exchanged_letters(letters, pairs):
+    """A dict from letters to those in their place; raises BadLetters for any value that does not tell unlike ones."""
     if not are_letter_pairs(pairs):
         raise BadLetters(pairs)
     behind_of = {ahead: after for ahead, after in pairs}
-    letters = {letter: behind_of.get(letter, letter) for letter in form.letters}
-    if len(set(list(letters.values()))) < len(letters):
+    told = {letter: behind_of.get(letter, letter) for letter in letters}
+    if len(set(list(told.values()))) < len(told):
         raise BadLetters(pairs)
-    moves = sorted([(state, letters[letter], goal) for state, letter, goal in form.moves])
-    return least_form(Format(form.size, tuple(moves), form.ends))
+    return told
 
 
 def are_letter_pairs(thing):

@@ -3,6 +3,11 @@
 from serialhouse.ratios import fraction
 
 
+def are_tosses(thing):
+    """Whether any value is a row of tosses."""
+    return isinstance(thing, str) and all([sign == "0" or sign == "1" for sign in thing])
+
+
 def draw(many, tosses):
     """("drawn", index, used), or ("open", places, place), for drawing among so many things."""
     if many == 1:

@@ -3,7 +3,7 @@
 from serialhouse.errors import Endless, Uneven
 from serialhouse.ratios import is_fraction, minus
 from serialhouse.reaching import reached
-from serialhouse.tosses import leaves_at, mean, open_round
+from serialhouse.tosses import are_tosses, leaves_at, mean, open_round
 from serialhouse.treemeans import places_hold, solved
 from serialhouse.values import is_integer, is_tuple_of
 
@@ -86,7 +86,7 @@ def have_form_of_places(many, tree, rows, means):
 
 def is_without_end(many, tree, thing):
     """Whether any value is a row of tosses to a node from which nothing can be drawn."""
-    if not isinstance(thing, str) or not all([sign == "0" or sign == "1" for sign in thing]):
+    if not are_tosses(thing):
         return False
     told = walked(many, tree, thing)
     return told[0] == "at" and told[1] not in ending_nodes(tree)

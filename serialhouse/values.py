@@ -1,5 +1,8 @@
 """Kinds of values: what an integer is, and what ascends."""
 
+# Lengths, and numbers of things, beyond all limits.
+MOST = 10000
+
 
 def is_integer(thing):
     """Whether any value is an integer; a bool is none."""
@@ -9,6 +12,11 @@ def is_integer(thing):
 def is_below(thing, size):
     """Whether any value is an integer from 0 on that is less than size."""
     return is_integer(thing) and 0 <= thing < size
+
+
+def can_be_told(thing):
+    """Whether any value is an integer from 0 on that is not beyond all limits of lengths and numbers of things."""
+    return is_below(thing, MOST + 1)
 
 
 def is_ascending(things):

@@ -95,3 +95,17 @@ def comes_of_lot(form, letters, states):
         shares[(state, turns[state])] = (1, 1)
     return tuple([
         tuple([shares.get((state, turn), (0, 1)) for state in range(form.size)]) for turn in range(around)])
+
+
+def stays_of_lot(form, letters, states):
+    """The tuple of the shares with which walks stay at the states of a closed lot."""
+    goals = goal_rows(form)
+    places = {state: place for place, state in enumerate(states)}
+    rows = [[0] * (len(states) + 1) for _ in states]
+    for place, state in enumerate(states):
+        rows[place][place] += len(letters)
+        for goal in goals[state]:
+            rows[places[goal]][place] -= 1
+    # Any one of these equations follows from the others; that the sum is 1 is put in the place of the last one.
+    rows[-1] = [1] * (len(states) + 1)
+    return tuple(solved_rows(rows))

@@ -74,7 +74,14 @@ FUNCTIONS = {
     "crossings": ("judge_never_fewer(one, other)", "never_fewer_from(one, other)",
                   "never_fewer_holds(one, other, thing)"),
     "shares": ("share_at(form, letters, length)", "closed_lots(form, letters)", "turns(form, letters, states)",
-               "round_of(form, letters)", "comes_to(form, letters, states)", "lost_share(form, letters)")}
+               "round_of(form, letters)", "comes_to(form, letters, states)", "lost_share(form, letters)"),
+    "limits": ("limits(form, letters)", "limits_paper(form, letters)", "limits_hold(form, letters, thing)",
+               "is_thin(form, letters)", "thin_paper(form, letters)", "thin_holds(form, letters, thing)",
+               "thin_bound(form, letters)"),
+    "formfindings": ("form_finding_holds(thing)",),
+    "drawfindings": ("draw_finding_holds(thing)",),
+    "growthfindings": ("growth_finding_holds(thing)",),
+    "findings": ("finding_holds(thing)",)}
 CLASSES = {
     ("sheets", "Sheet"): ("__init__(self, size, moves, ends)", "goals(self, state, letter)", "__eq__(self, other)",
                           "__str__(self)", "read(text)"),
@@ -87,7 +94,14 @@ CLASSES = {
         "__init__(self, few, first, around, rests)", "__eq__(self, other)", "__contains__(self, length)",
         "__and__(self, other)", "__or__(self, other)", "__sub__(self, other)", "__invert__(self)",
         "is_within(self, other)", "first_apart(self, other)", "moved(self, by)", "at(self, index)",
-        "below(self, length)", "is_endless(self)")}
+        "below(self, length)", "is_endless(self)"),
+    ("books", "Bureau"): (
+        "__init__(self)", "start(self, name, form)", "issue_next(self, name)", "issue(self, name, word)",
+        "issue_drawn(self, name, length, tosses)", "void(self, name, word)", "edit(self, name, sign, form)",
+        "put_letters(self, name, pairs)", "undo(self)", "log(self)", "of(log)", "books(self)", "form_now(self, name)",
+        "editions(self, name)", "all_issued(self, name)", "in_force(self, name)", "number_now(self, name, word)",
+        "standing(self, name, word)", "many_left(self, name, length)", "__eq__(self, other)", "__len__(self)"),
+    ("console", "Console"): ("__init__(self)", "run(self, command)")}
 
 
 class InterfaceTest(unittest.TestCase):
@@ -172,7 +186,11 @@ class CallTest(unittest.TestCase):
                 "form": one, "one": one, "other": other, "under": 6, "many": 9, "most=2000": 300, "rest": 4,
                 "length": 10 ** 9, "thing": ("ends", ())}
         for form in (EVENS, ALL, ENDA):
-            yield ("shares",), {"form": form, "letters": "ab", "length": 7, "states": tuple(range(form.size))}
+            yield ("shares", "limits"), {
+                "form": form, "letters": "ab", "length": 7, "states": tuple(range(form.size)), "thing": ("thin", ("",))}
+        yield ("formfindings", "findings"), {"thing": ("word", str(NOAA), "ab")}
+        yield ("drawfindings", "findings"), {"thing": ("least", 2, ((-1, -2),))}
+        yield ("growthfindings", "findings"), {"thing": ("share", str(NOAA), "ab", 3, 5, 8)}
         for weights in ((1, 2), (0, 7), (5, 0, 3, 3)):
             yield ("tosses",), {
                 "many": 5, "tosses": "0110", "weights": weights, "depth": 9, "index": 3, "most": 20}

@@ -2,12 +2,16 @@
 
 import unittest
 
+from serialhouse.books import Bureau
+from serialhouse.console import Console
 from serialhouse.crossings import judge_never_fewer, never_fewer_holds
-from serialhouse.errors import TooFar
+from serialhouse.errors import NotIn, StillInForce, TooFar
+from serialhouse.findings import finding_holds
 from serialhouse.formats import Format
 from serialhouse.growth import degree, judge_growth
 from serialhouse.growthchecks import growth_holds
 from serialhouse.lengths import Lengths
+from serialhouse.limits import limits, limits_paper, thin_bound, thin_holds
 from serialhouse.pieces import piece_count, pieces
 from serialhouse.remainders import (
     around, empty_lengths, judge_remainders, judge_rest, leave_alike, lengths_with, remainders, round_holds)
@@ -79,3 +83,48 @@ class PartNineTest(unittest.TestCase):
         self.assertEqual(lost_share(EVEN, "ab"), (1, 1))
         self.assertEqual(closed_lots(NOAA, "ab"), ())
         self.assertEqual(share_at(NOAA, "ab", 3), (5, 8))
+
+    def test_limits(self):
+        self.assertEqual(limits(ENDA, "ab"), ((1, 2),))
+        self.assertEqual(limits(EVEN, "a"), ((1, 1), (0, 1)))
+        self.assertEqual(limits_paper(EVEN, "a"), (
+            "limits", (((0, 1), 2),), (((1, 2), (1, 2)),), ((((1, 1), (0, 1)), ((0, 1), (1, 1))),)))
+        self.assertEqual(limits(EVEN, "ab"), ((0, 1),))
+
+    def test_thin(self):
+        self.assertIs(thin_holds(NOAA, "ab", ("thin", ("aa", "a"))), True)
+        self.assertEqual(thin_bound(NOAA, "ab"), (2, (3, 4)))
+
+
+class PartTenTest(unittest.TestCase):
+    def test_bureau(self):
+        bureau = Bureau()
+        bureau.start("card", NOAA)
+        self.assertEqual([bureau.issue_next("card") for _ in range(4)], ["", "a", "b", "ab"])
+        with self.assertRaises(NotIn) as caught:
+            bureau.issue("card", "aa")
+        self.assertEqual(caught.exception.word, "aa")
+        bureau.void("card", "a")
+        self.assertEqual((bureau.issue_next("card"), bureau.number_now("card", "ab")), ("ba", 3))
+        form = Format(3, ((0, "a", 1), (1, "a", 2)), (2,))
+        bureau.edit("card", "|", form)
+        self.assertEqual((bureau.number_now("card", "ab"), bureau.issue_next("card")), (4, "aa"))
+        with self.assertRaises(StillInForce) as caught:
+            bureau.edit("card", "-", form)
+        self.assertEqual(caught.exception.word, "aa")
+        bureau.void("card", "aa")
+        bureau.edit("card", "-", form)
+        self.assertEqual(bureau.issue_drawn("card", 3, "001"), "abb")
+
+
+class LastTest(unittest.TestCase):
+    def test_findings(self):
+        self.assertIs(finding_holds(("mean", 4, 4, 2)), False)
+
+    def test_console(self):
+        console = Console()
+        for command, answer in (
+                ("keep noaa format 2;move 0 a 1;move 0 b 0;move 1 b 0;ends 0 1", "ok"), ("count noaa 4", "8"),
+                ("rule noaa", "1 2 | 1 1"), ("word noaa 4", "ba"), ("mean noaa 3", "18/5"), ("round noaa 2", "0 3"),
+                ("growth noaa", "doubles"), ("toss noaa 2 10", "word bb 2")):
+            self.assertEqual(console.run(command), answer)
