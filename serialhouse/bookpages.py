@@ -30,7 +30,7 @@ def is_name(thing):
 
 def is_issued(book, thing):
     """Whether any value is a word that was issued."""
-    return is_word(thing) and thing in book.words
+    return thing in book.words
 
 
 def is_in_force(book, thing):

@@ -15,7 +15,6 @@ FORMS = {
     "mean": "Nd", "round": "Nr", "growth": "N", "shares": "NL"}
 LEASTS = {"c": 0, "l": 0, "u": 1, "k": 0, "d": 0, "r": 1}
 MOSTS = {"c": 300, "l": 10 ** 30, "u": 10 ** 6, "k": 10 ** 60 - 1, "d": 120, "r": 1000}
-MOST_FIGURES = 60
 MOST_LETTERS = 120
 MOST_TOSSES = 400
 
@@ -76,7 +75,5 @@ def tosses_read(word):
 
 def number_read(word, low, high):
     """The number from low to high that is told."""
-    if len(word) > MOST_FIGURES:
-        return None
     number = integer_of(word)
     return number if number is not None and low <= number <= high else None

@@ -1,7 +1,6 @@
 """Deeds: what is done with a bureau, as tuples; read from any value, and done."""
 
 from serialhouse.formats import Format
-from serialhouse.tosses import are_tosses
 from serialhouse.values import is_below
 
 # How many parts the deeds have, by their first ones.
@@ -15,7 +14,7 @@ def is_deed(thing):
         return False
     if PARTS.get(thing[0]) != len(thing):
         return False
-    return thing[0] != "drawn" or is_below(thing[2], MOST_LETTERS + 1) and are_tosses(thing[3])
+    return thing[0] != "drawn" or is_below(thing[2], MOST_LETTERS + 1)
 
 
 def do_deed(bureau, deed):

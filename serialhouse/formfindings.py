@@ -102,9 +102,7 @@ def is_barred_by(one, other, rows):
 
 def is_led_to(one, other, table, word, goal):
     """("led", F, G, table, word, word)."""
-    if not is_table(one, other, table) or not one.has(word) or not is_word(goal):
-        return False
-    return led(one, other, table, word) == goal
+    return is_table(one, other, table) and one.has(word) and led(one, other, table, word) == goal
 
 
 HOLDING = {

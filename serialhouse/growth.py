@@ -60,7 +60,7 @@ def grows_faster(one, other):
     mine = degree(one)
     yours = degree(other)
     if mine is None or yours is None:
-        return mine is None and yours is not None
+        return yours is not None
     return mine > yours
 
 

@@ -314,12 +314,34 @@ class RaisedTest(unittest.TestCase):
         # No word of the format any more: NotIn is ahead of IssuedBefore.
         self.raised(NotIn, lambda: bureau.issue("card", "c"), "c")
         self.assertEqual(bureau.standing("card", "c"), "void")
+        # It is none of the words of its length that are left, nor does it stand among those that are drawn.
+        self.assertEqual(bureau.many_left("card", 1), 1)
+        self.assertEqual(bureau.issue_drawn("card", 1, ""), "a")
+        bureau.undo()
         bureau.edit("card", "|", FEW)
         self.raised(IssuedBefore, lambda: bureau.issue("card", "c"), "c")
         self.assertEqual(bureau.issue_next("card"), "a")
         self.raised(NoWordLeft, lambda: bureau.issue_next("card"), "card")
         self.raised(NoWordLeft, lambda: bureau.issue_drawn("card", 1, ""), "card")
         self.raised(NoWordLeft, lambda: bureau.issue_drawn("card", 7, "01"), "card")
+
+    def test_draws_behind_edits(self):
+        # b was voided and is no word any more: of aa, ab, bb those that are left are numbered without it.
+        bureau = started(Format(2, ((0, "a", 1), (0, "b", 1), (1, "b", 1)), (1,)))
+        for word in ("bb", "ab"):
+            bureau.issue("card", word)
+            bureau.void("card", word)
+        bureau.edit("card", "-", Format(3, ((0, "b", 1), (1, "b", 2)), (2,)))
+        bureau.edit("card", "|", ALL)
+        bureau.edit("card", "-", Format(3, ((0, "a", 1), (1, "b", 2)), (2,)))
+        self.assertEqual(bureau.many_left("card", 2), 2)
+        self.assertEqual([self.drawn(bureau, tosses) for tosses in "01"], ["aa", "ba"])
+
+    def drawn(self, bureau, tosses):
+        """The word of two letters that tosses draw; it is taken back."""
+        word = bureau.issue_drawn("card", 2, tosses)
+        bureau.undo()
+        return word
 
     def test_signs(self):
         bureau = started()
@@ -588,6 +610,9 @@ class LogTest(unittest.TestCase):
                 ("letters", "card", (("a", "b"),)), ("letters", "card"), ["next", "card"], ("Next", "card"), ("issue", "card"),
                 ("undo",), ("next", ["card"]), (None, "card"), (["next"], "card"), "next", ("log", "card")):
             self.assertEqual(self.number((start, deed, ("next", "card"))), 1, deed)
+        ones = ("start", "card", str(ONES))
+        self.assertEqual(len(Bureau.of((ones, ("drawn", "card", 120, "")))), 2)
+        self.assertEqual(self.number((ones, ("drawn", "card", 121, ""))), 1)
         for deed in (("next", "card"), ("word", "card", "bb"), ("drawn", "card", 3, "001"), ("edit", "card", "&", str(NONE)),
                      ("letters", "card", ())):
             self.assertEqual(len(Bureau.of((start, deed))), 2)

@@ -4,7 +4,7 @@ import itertools
 import math
 import unittest
 
-from serialhouse.crossings import judge_never_fewer, never_fewer_from, never_fewer_holds
+from serialhouse.crossings import Crossing, judge_never_fewer, never_fewer_from, never_fewer_holds
 from serialhouse.errors import Doubles, TooFar, TooMany
 from serialhouse.formats import Format
 from serialhouse.growth import degree
@@ -181,6 +181,41 @@ class RaisedTest(unittest.TestCase):
             self.assertIs(never_fewer_holds(other, one, back), right)
 
 
+    def test_far_rest_ahead_of_a_near_one(self):
+        # At even lengths the lead is below 0 until far beyond what is told, at odd ones there are no words at all.
+        one = behind(ring(2, "a"), behind(ring(2, "b"), ring(2, "c")))
+        far = behind(many_words(10), behind(ring(2, "d"), ring(2, "e")))
+        with self.assertRaises(TooFar):
+            judge_never_fewer(one, far)
+
+    def test_firsts_as_far_as_can_be(self):
+        # So many words of fourteen letters, then e's: from there on as many at each length.
+        for many, is_told in ((10000, True), (10001, True), (10002, False)):
+            other = behind(first_words(many), ring(1, "e"))
+            self.assertEqual(counts(other, 16)[12:], (0, 0, many, many))
+            for one, yours in ((AB, other), (other, AB)):
+                if not is_told:
+                    self.assertRaises(TooFar, judge_never_fewer, one, yours)
+            if is_told:
+                self.assertEqual(judge_never_fewer(AB, other), ("from", many - 1, ((many - 1, (0, 1)),)))
+            if many == 10000:
+                self.assertEqual(judge_never_fewer(other, AB), ("again", 10000, (-1, -1)))
+            else:
+                self.assertRaises(TooFar, judge_never_fewer, other, AB)
+
+
+def first_words(many):
+    """The first so many words of fourteen letters a and b: those less than the one that tells many by twos."""
+    figures = f"{many:014b}"
+    moves = []
+    for place, figure in enumerate(figures):
+        # As told so far, or less already: then any letters are let.
+        moves += [(place, "ab"[int(figure)], place + 1), (place + 15, "a", place + 16), (place + 15, "b", place + 16)]
+        if figure == "1":
+            moves.append((place, "a", place + 16))
+    return Format(30, tuple(sorted(moves)), (29,))
+
+
 class PaperTest(unittest.TestCase):
     def test_any_values(self):
         for one, other in PAIRS[::9]:
@@ -204,6 +239,36 @@ class PaperTest(unittest.TestCase):
         if isinstance(thing, tuple):
             return any(self.is_far(part) for part in thing)
         return is_int(thing, 500)
+
+    def test_right_differences_of_other_signs(self):
+        for paper in (("again", 0, (0, 2)), ("again", 1, (2, 2)), ("from", 0, ((0, (0, 2)), (1, (2, 2))))):
+            self.assertIs(never_fewer_holds(AB, EVEN, paper), paper[0] == "from")
+        for paper in (("again", 0, (0, -2)), ("from", 10 ** 9, ((0, (0, -2)), (1, (-2, -2))))):
+            self.assertIs(never_fewer_holds(EVEN, AB, paper), False)
+        self.assertIs(never_fewer_holds(EVEN, AB, ("again", 2, (-2, -2))), True)
+
+    def test_step_of_sixty(self):
+        one, other = ring(12, "a"), ring(5, "a")
+        for mine, yours in ((one, other), (other, one), (one, behind(other, NONE))):
+            paper = judge_never_fewer(mine, yours)
+            self.assertIs(never_fewer_holds(mine, yours, paper), True)
+            self.assertIs(is_paper(mine, yours, paper), True)
+
+    def test_leads_of_nought_are_not_below(self):
+        # 0, 1, 0, 1, 6, ..: never below 0, though differences are, until the third one.
+        crossing = Crossing(AB, EVEN)
+        crossing.stride = 1
+        self.assertEqual(crossing.walk(0, (0, 1, -2, 4)), ((2, (0, 1, 6, 4)), -1))
+        self.assertEqual(crossing.walk(0, (0, 0, -2, 4)), ((4, (4, 16, 14, 4)), 3))
+
+    def test_rests_and_starts(self):
+        # The start is 1, the step 3: rows are told rest by rest.
+        for one, other in ((ring(3, "a"), EMPTY), (either(ring(3, "a"), AA), NONE), (ring(5, "b", (2,)), EMPTY)):
+            paper = judge_never_fewer(one, other)
+            self.assertIs(is_paper(one, other, paper), True)
+            self.assertEqual(paper[0], "from")
+            self.assertEqual(judge_never_fewer(other, one)[0], "again")
+            self.assertIs(is_paper(other, one, judge_never_fewer(other, one)), True)
 
     def test_lengths(self):
         rows = ((0, (0, 2)), (1, (2, 2)))

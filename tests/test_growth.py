@@ -265,3 +265,8 @@ class PaperTest(unittest.TestCase):
         # Two letters to one state are two moves.
         self.assertIs(growth_holds(TWO_LETTERS, ("power", 0, ((0, 1, 0), (1, 1, 0)), ("", "aa", "a"))), False)
         self.assertIs(growth_holds(NONE, ("power", 0, (), ("", "a", ""))), False)
+        # No degree below 0, though the levels and the chain would do; and no move to a higher level.
+        self.assertIs(growth_holds(SHORT, ("power", -1, ((0, 0, 1), (1, 0, 0)), ("a",))), False)
+        late = Format(2, ((0, "a", 1), (1, "a", 1)), (1,))
+        self.assertIs(growth_holds(late, ("power", 0, ((0, 1, 0), (1, 2, 0)), ("a", "a", ""))), False)
+        self.assertIs(growth_holds(late, ("power", 0, ((0, 1, 1), (1, 1, 0)), ("a", "a", ""))), True)

@@ -165,6 +165,11 @@ class BadTest(unittest.TestCase):
         self.assertEqual(self.part((0, 3), 4, 0, (0,)), "around")
         self.assertEqual(self.part((0, 3), 4, 2, (0, 2)), "rests")
         self.assertEqual(self.part((0, True), 4, 2, (0,)), "few")
+        self.assertEqual(self.part((-1,), 4, 2, (0,)), "few")
+        self.assertEqual(self.part((-7, 3), 4, 2, (0,)), "few")
+        self.assertEqual(self.part((3,), 4, 2, (-1,)), "rests")
+        self.assertEqual(self.part((3,), 4, -2, (0,)), "around")
+        self.assertEqual(self.part((), -1, 1, (0,)), "first")
 
 
 class AskedTest(unittest.TestCase):

@@ -116,10 +116,16 @@ class PieceTest(unittest.TestCase):
             self.assertEqual(step_of(form), step)
             start, polynomials = pieces(form)
             row = counts(form, 420)
+            self.assertEqual(self.least_start(row, polynomials), start)
             for length in range(420):
                 self.assertEqual(piece_count(form, length), row[length])
                 if length >= start:
                     self.assertEqual(value(polynomials[length % step], length), row[length])
+
+    def least_start(self, row, polynomials):
+        """One more than the last length at which a count is not told."""
+        unlike = [length for length, number in enumerate(row) if value(polynomials[length % len(polynomials)], length) != number]
+        return unlike[-1] + 1 if unlike else 0
 
     def test_doubling(self):
         self.assertIn(None, [degree(form) for form in (NOAA,)])
@@ -139,7 +145,9 @@ class PieceTest(unittest.TestCase):
 
     def test_rests(self):
         for first, second in itertools.product((2, 3, 4), (2, 3, 5)):
-            form = behind(ring(first, "a"), ring(second, "b"))
+            form = either(behind(ring(first, "a"), ring(second, "b")), Format(
+                8, tuple((state, "c", state + 1) for state in range(7)), (4, 7)))
             row = counts(form, 200)
+            self.assertEqual(pieces(form)[0], self.least_start(row, pieces(form)[1]))
             self.assertEqual([piece_count(form, length) for length in range(200)], list(row))
             self.assertEqual(step_of(form), math.lcm(first, second))

@@ -227,6 +227,8 @@ class RestTest(unittest.TestCase):
         self.assertIs(rest_holds(NOAA, 2, 0, ("at", 3 * 10 ** 29)), False)
         self.assertIs(rest_holds(NOAA, 2, 1, ("at", 3 * 10 ** 58)), True)
         self.assertIs(rest_holds(NOAA, 2, 0, ("at", True)), False)
+        self.assertIs(rest_holds(NOAA, 2, 1, ("at", 0)), True)
+        self.assertIs(rest_holds(NOAA, 2, 1, ("at", -1)), False)
         self.assertIs(rest_holds(NOAA, 8, 4, ("never", 0, 12)), True)
         self.assertIs(rest_holds(NOAA, 8, 4, ("never", 7, 24)), True)
         self.assertIs(rest_holds(NOAA, 8, 4, ("never", 0, 13)), False)
@@ -334,6 +336,8 @@ class LikeTest(unittest.TestCase):
         self.assertIs(remainders_hold(NOAA, ONES, 2, ("apart", 3 * 10 ** 29)), False)
         self.assertIs(remainders_hold(EVEN, ONES, 2, ("apart", 10 ** 58 + 1)), True)
         self.assertIs(remainders_hold(EVEN, ONES, 2, ("apart", True)), False)
+        self.assertIs(remainders_hold(NONE, ONES, 2, ("apart", 0)), True)
+        self.assertIs(remainders_hold(NONE, ONES, 2, ("apart", -1)), False)
 
     def test_returned_formats(self):
         one, other = again(either(PAIRS, NOAA)), behind(NOAA, PAIRS)
