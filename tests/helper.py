@@ -4,9 +4,13 @@ import itertools
 import random
 from fractions import Fraction
 
+from serialhouse.books import Bureau
 from serialhouse.codes import Code
+from serialhouse.console import Console
 from serialhouse.errors import BadFormat, HasBeginnings, NothingToUndo
 from serialhouse.formats import Format
+from serialhouse.lengths import Lengths
+from serialhouse.readers import Reader
 from serialhouse.sheets import Sheet
 
 NOAA = Format(2, ((0, "a", 1), (0, "b", 0), (1, "b", 0)), (0, 1))
@@ -48,7 +52,9 @@ ANY = (
     ("endless", (0,), (1,), (2,), (2,)), ("within", 0, ()), ("within", 2, (("ab", 1), ("b", 0))), ("ends", (), ()),
     ((0, 1), (1, 2)), (1, 2), ((-1, -2),), ((1, 2),), ONE, [ONE], "abc", "ba", ("a", "ab"), ("b", "a"), ("",), [], [0], [(0, 1)], ["one", ()], {},
     {0: 1}, {"a": [1]}, ((((((),),),),),), "a" * 2000, "\n" * 9, tuple(range(50)), NOAA, NOAA.sheet, TWICE,
-    BadFormat("size"), HasBeginnings(0, 1), NothingToUndo(), [[[{"a": (None, [True])}]]])
+    BadFormat("size"), HasBeginnings(0, 1), NothingToUndo(), [[[{"a": (None, [True])}]]], Lengths((), 0, 1, (0,)), Bureau(),
+    Console(), Reader(NEAR), (Bureau(), Lengths((1,), 2, 1, ())), ("at", 0), ("never", 0, 1), ("round", 0, 0), ("from", 0, ()),
+    ("again", 0, (-1,)), ("power", 0, (), ()), ("thin", ()), ("thick", (0,), 0), ("limits", (), (), ()), ("mean", 1), ("next",))
 
 
 def words_to(letters, most):

@@ -220,7 +220,7 @@ class PaperTest(unittest.TestCase):
     def test_any_values(self):
         for one, other in PAIRS[::9]:
             for thing in ANY:
-                self.assertIs(never_fewer_holds(one, other, thing), False, thing)
+                self.assertIs(never_fewer_holds(one, other, thing), is_paper(one, other, thing), thing)
 
     def test_changed_papers(self):
         seen = set()

@@ -12,7 +12,7 @@ from serialhouse.growthchecks import growth_holds
 from serialhouse.joining import behind, either
 from serialhouse.pieces import piece_count, pieces, step_of
 from serialhouse.rows import counts
-from tests.helper import AA, EMPTY, EVEN, FORMS, NOAA, NONE, ONES, reach, some_formats, some_tame_formats
+from tests.helper import AA, EMPTY, EVEN, FORMS, NOAA, ONES, reach, some_formats, some_tame_formats
 
 AB = Format(2, ((0, "a", 0), (0, "b", 1), (1, "b", 1)), (0, 1))
 STAIRS = Format(6, tuple(sorted(
